@@ -1,0 +1,1 @@
+"""Lookingnets: programs over texts made into nets that look back, exactly."""
