@@ -131,3 +131,47 @@ def texts(signs, n):
     """All texts, in the order of [36]."""
     return [text for length in range(1, n + 1)
             for text in itertools.product(range(signs), repeat=length)]
+
+
+def direct(name, lines):
+    """The names of the line that gives a name; none for a given name."""
+    for line in lines:
+        if line[1] == name:
+            if line[0] == "be":
+                return names_of(line)
+            if line[0] == "table":
+                return list(line[2])
+            return [line[2], line[4]] if line[0] == "count" else [line[2], line[3], line[5]]
+    return []
+
+
+def behind(name, lines):
+    """The set of the names on which a name hangs."""
+    found = set(direct(name, lines))
+    for other in direct(name, lines):
+        found |= behind(other, lines)
+    return found
+
+
+def is_look(name, lines):
+    """Whether a name is given by a look."""
+    return any(line[1] == name and line[0] in ("first", "last", "count", "mean") for line in lines)
+
+
+def layer(name, lines):
+    """The greatest number of looks on a way from a name down to the given names, it counted."""
+    ways = [layer(other, lines) for other in direct(name, lines)]
+    return max(ways, default=0) + (1 if is_look(name, lines) else 0)
+
+
+def step(name, lines):
+    """The greatest number of lines on a way from a name down through names of its layer, as far as
+    the first look; a given name counts nothing.
+    """
+    if name in ("sign", "place"):
+        return 0
+    if is_look(name, lines):
+        return 1
+    ways = [step(other, lines) for other in direct(name, lines)
+            if layer(other, lines) == layer(name, lines)]
+    return 1 + max(ways, default=0)

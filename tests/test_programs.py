@@ -248,9 +248,9 @@ class Hanging(unittest.TestCase):
             lines, told = grown(seed, 2 + seed % 3, 1 + seed % 6, seed % 13)
             program = Program(2 + seed % 3, 1 + seed % 6, lines, told)
             for name in ["sign", "place"] + program.names():
-                self.assertEqual(program.depth(name), (layer(name, lines), step(name, lines)))
-                self.assertEqual(program.hangs_on(name), sorted(behind(name, lines)))
-            layers = max([layer(name, lines) for name in program.names()], default=0)
+                self.assertEqual(program.depth(name), (plainly.layer(name, lines), plainly.step(name, lines)))
+                self.assertEqual(program.hangs_on(name), sorted(plainly.behind(name, lines)))
+            layers = max([plainly.layer(name, lines) for name in program.names()], default=0)
             self.assertEqual(program.layers, layers)
 
 
@@ -306,61 +306,17 @@ class Layings(unittest.TestCase):
             looks = [line[1] for line in lines if line[0] not in ("be", "table")]
             chain = longest_chain(program)
             self.assertIs(type(chain), list)
-            self.assertEqual(len(chain), max([layer(name, lines) for name in looks], default=0))
+            self.assertEqual(len(chain), max([plainly.layer(name, lines) for name in looks], default=0))
             self.assertTrue(set(chain) <= set(looks))
             for ahead, name in zip(chain, chain[1:]):
-                self.assertIn(ahead, behind(name, lines))
+                self.assertIn(ahead, plainly.behind(name, lines))
             laying = least_laying(program)
-            self.assertEqual(laying, {name: layer(name, lines) for name in looks})
+            self.assertEqual(laying, {name: plainly.layer(name, lines) for name in looks})
             self.assertIs(is_laying(program, laying), True)
             # No look may have the number of one on which it hangs, and none a number below 1.
             for name in looks:
-                below = [laying[other] for other in behind(name, lines) if other in looks]
+                below = [laying[other] for other in plainly.behind(name, lines) if other in looks]
                 self.assertIs(is_laying(program, {**laying, name: max(below, default=0)}), False)
-
-
-def direct(name, lines):
-    """The names of the line that gives a name; none for a given name."""
-    for line in lines:
-        if line[1] == name:
-            if line[0] == "be":
-                return plainly.names_of(line)
-            if line[0] == "table":
-                return list(line[2])
-            return [line[2], line[4]] if line[0] == "count" else [line[2], line[3], line[5]]
-    return []
-
-
-def behind(name, lines):
-    """The set of the names on which a name hangs."""
-    found = set(direct(name, lines))
-    for other in direct(name, lines):
-        found |= behind(other, lines)
-    return found
-
-
-def is_look(name, lines):
-    """Whether a name is given by a look."""
-    return any(line[1] == name and line[0] in ("first", "last", "count", "mean") for line in lines)
-
-
-def layer(name, lines):
-    """The greatest number of looks on a way from a name down to the given names, it counted."""
-    ways = [layer(other, lines) for other in direct(name, lines)]
-    return max(ways, default=0) + (1 if is_look(name, lines) else 0)
-
-
-def step(name, lines):
-    """The greatest number of lines on a way from a name down through names of its layer, as far as
-    the first look; a given name counts nothing.
-    """
-    if name in ("sign", "place"):
-        return 0
-    if is_look(name, lines):
-        return 1
-    ways = [step(other, lines) for other in direct(name, lines)
-            if layer(other, lines) == layer(name, lines)]
-    return 1 + max(ways, default=0)
 
 
 if __name__ == "__main__":
