@@ -97,6 +97,64 @@ def check_stages(stages, width):
             raise BadNet(at)
 
 
+def renumbered_entries(entries, columns):
+    """The list of entries with new columns, by a dict; those with a column that it lacks go."""
+    return [(columns[column], factor) for column, factor in entries if column in columns]
+
+
+def renumbered_triples(triples, columns):
+    """The list of scores or givings with new columns, likewise."""
+    found = []
+    for left, right, factor in triples:
+        if left in columns and right in columns:
+            found.append((columns[left], columns[right], factor))
+    return found
+
+
+def renumbered_part(kind, part, columns):
+    """A head or a unit with new columns, likewise."""
+    if kind == "heads":
+        return (renumbered_triples(part[0], columns), renumbered_triples(part[1], columns))
+    return (renumbered_entries(part[0], columns), part[1], renumbered_entries(part[2], columns))
+
+
+def kind_at(net, stage):
+    """The kind of the stage of a net with an index; the empty string if there is none."""
+    stages = net.stages()
+    return stages[stage][0] if 0 <= stage < len(stages) else ""
+
+
+def begin_contents(net, columns):
+    """The dict from some columns to the lists of their begin contents: those of the resting place,
+    and then those for each sign and each place.
+    """
+    rest = dict(net.rest_row())
+    signs = [dict(row) for row in net.sign_rows()]
+    places = [dict(row) for row in net.place_rows()]
+    found = {}
+    for column in columns:
+        held = [rest.get(column, ZERO)]
+        for sign in signs:
+            for place in places:
+                held.append(plus(sign.get(column, ZERO), place.get(column, ZERO)))
+        found[column] = held
+    return found
+
+
+def writers(net):
+    """The dict from each column that is written to the dict of its writers, which are pairs of the
+    index of a stage and that of a head in it, or -1 for a bend.
+    """
+    found = {}
+    for at, stage in enumerate(net.stages()):
+        kind, parts = stage
+        for index, part in enumerate(parts):
+            for giving in part[-1]:
+                known = found.setdefault(giving[0], {})
+                known[(at, index if kind == "heads" else -1)] = True
+    return found
+
+
 def entry_words(entries):
     """The words of entries."""
     return [f"{column}:{value_text(factor)}" for column, factor in entries]

@@ -175,6 +175,10 @@ class Program:
         self._check_name(name)
         return self._ranges[name]
 
+    def rule_of(self, name):
+        """What the line that gives an own name does, a dict to read; see line_rule."""
+        return self._rules[name]
+
     def depth(self, name):
         """The pair (layer, step) of a name."""
         self._check_name(name)

@@ -6,7 +6,7 @@ import unittest
 
 from lookingnets.errors import BadText, BadValue
 from lookingnets.nets import Net
-from tests.kinds import any_values
+from tests.kinds import almost, any_values
 from tests.netly import LIKE_ME, grown_net
 
 SHORT = """net 2 1 3
@@ -368,7 +368,7 @@ class BadTexts(Texts):
         texts = [SHORT, FULL, LIKE_ME] + [Net(**grown_net(seed)).text() for seed in range(30)]
         read = 0
         for _ in range(4000):
-            text = changed(chance, chance.choice(texts))
+            text = almost(chance, chance.choice(texts), "0123456789 -/:,>\nahe")
             due = first_bad(text)
             if due is None:
                 self.assertEqual(Net.read(text).text(), text)
@@ -376,31 +376,6 @@ class BadTexts(Texts):
             else:
                 self.bad(due, text)
         self.assertGreater(read, 100)
-
-
-def changed(chance, text):
-    """A text with a character, a word or a line that is put in, left out, doubled or changed."""
-    deed = chance.randrange(8)
-    at = chance.randrange(len(text))
-    if deed == 0:
-        return text[:at] + text[at + 1:]
-    if deed in (1, 2):
-        return text[:at] + chance.choice("0123456789 -/:,>\nahe") + text[at + deed - 1:]
-    rows = text.split("\n")
-    row = chance.randrange(len(rows))
-    if deed == 3:
-        return "\n".join(rows[:row] + rows[row + 1:])
-    if deed == 4:
-        return "\n".join(rows[:row] + [chance.choice(rows)] + rows[row:])
-    words = rows[row].split(" ")
-    word = chance.randrange(len(words))
-    if deed == 5:
-        words = words[:word] + words[word + 1:]
-    elif deed == 6:
-        words = words[:word] + [chance.choice(words)] + words[word:]
-    else:
-        words[word] = chance.choice(text.split())
-    return "\n".join(rows[:row] + [" ".join(words)] + rows[row + 1:])
 
 
 if __name__ == "__main__":
