@@ -27,7 +27,13 @@ def found_places(program, name, text, at):
     return [place for place, a in enumerate(values[key]) if related(relation, a, b)]
 
 
+def sign_of(value, signs):
+    """The sign that a value, or None in the place of one, stands for; None if there is none."""
+    if value is None or value[1] != 1 or not 0 <= value[0] < signs:
+        return None
+    return value[0]
+
+
 def next_sign(program, text):
     """The sign that a program tells at the last place of a text; None if it tells none there."""
-    p, q = program(text)[-1]
-    return p if q == 1 and 0 <= p < program.signs else None
+    return sign_of(program(text)[-1], program.signs)
