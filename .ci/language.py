@@ -106,6 +106,23 @@ def bound(tree):
     return found
 
 
+def of_names(tree):
+    """The faults of names that a file imports or gives to classes: those that stand for something
+    else as well, and imports that nothing reads.
+    """
+    imported = {alias.asname or alias.name for node in tree.body if isinstance(node, ast.ImportFrom)
+                for alias in node.names}
+    taken = imported | {node.name for node in tree.body if isinstance(node, ast.ClassDef)}
+    read = {node.id for node in ast.walk(tree) if isinstance(node, ast.Name)}
+    for name in sorted(imported - read):
+        yield 1, f"L16: {name} is imported and not read"
+    for node in ast.walk(tree):
+        if isinstance(node, ast.Name) and not isinstance(node.ctx, ast.Load) and node.id in taken:
+            yield node.lineno, f"L15: {node.id} is the name of a class or an import"
+        if isinstance(node, ast.arg) and node.arg in taken:
+            yield node.lineno, f"L15: {node.arg} is the name of a class or an import"
+
+
 def docstrings(tree):
     """The identities of the nodes that are docstrings."""
     kinds = (ast.Module, ast.FunctionDef, ast.ClassDef)
@@ -161,6 +178,7 @@ def faults(path, methods):
     docs = docstrings(tree)
     yield from of_lines(text)
     yield from of_module(tree)
+    yield from of_names(tree)
     for name in sorted(names & set(builtins.__dict__)):
         yield 1, f"L15: {name} is the name of a builtin"
     for node in ast.walk(tree):

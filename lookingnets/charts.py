@@ -29,7 +29,7 @@ def are_columns(value):
     return all([is_column(column, MOST_WIDTH) for column in value])
 
 
-def is_pair(value):
+def is_column_pair(value):
     """Whether any value is a pair of a value and a column."""
     if not isinstance(value, tuple) or len(value) != 2:
         return False
@@ -41,7 +41,7 @@ def is_entry(value):
     if not isinstance(value, tuple) or len(value) != 3 or not is_name(value[0]):
         return False
     pairs = value[1]
-    if not isinstance(pairs, (list, tuple)) or not all([is_pair(pair) for pair in pairs]):
+    if not isinstance(pairs, (list, tuple)) or not all([is_column_pair(pair) for pair in pairs]):
         return False
     return differ([pair[0] for pair in pairs]) and is_within(value[2], LEAST_STAGE, MOST_STAGE)
 
@@ -106,7 +106,7 @@ def read_ends(row):
     return (one, rest) if are_columns([one, rest]) and one != rest else None
 
 
-def read_pair(word):
+def read_column_pair(word):
     """The pair that a word writes out, with None for each part that cannot stand."""
     value, _, column = word.partition(":")
     return (read_value(value), read_number(column))
@@ -117,7 +117,7 @@ def read_entry(row):
     words = row.split(" ")
     if len(words) < 3 or words[0] != "name":
         return None
-    entry = (words[1], tuple([read_pair(word) for word in words[3:]]), read_number(words[2]))
+    entry = (words[1], tuple([read_column_pair(word) for word in words[3:]]), read_number(words[2]))
     return entry if is_entry(entry) and normal_entry(entry) == entry else None
 
 

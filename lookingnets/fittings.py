@@ -5,7 +5,7 @@ from lookingnets.errors import BadLine, BadText, Broken
 from lookingnets.expressions import GIVEN
 from lookingnets.judging import judge
 from lookingnets.making import made_map, made_net
-from lookingnets.nets import Net, renumbered_entries, renumbered_part
+from lookingnets.nets import Net, renumbered_part
 from lookingnets.programs import Program, new_names
 from lookingnets.running import run, shown
 

@@ -16,27 +16,30 @@ def names_to_read(chart):
 
 def names_among(chart, ranges, columns):
     """The ascending list of the names with a column, for a value of their ranges, among some."""
+    read = {column: True for column in columns}
     found = []
     for name in sorted(ranges):
-        if any([chart.column(name, value) in columns for value in ranges[name]]):
+        if any([chart.column(name, value) in read for value in ranges[name]]):
             found.append(name)
     return found
 
 
-def value_given(fitting, name, contents):
-    """The value of a name whose column gets the sum 1 for some contents beside 1 at one."""
-    chart = fitting.chart
+def value_given(units, chart, name, contents):
+    """The value of a name whose column gets the sum 1 from the units that serve it, for some contents
+    beside 1 at one.
+    """
     held = dict(contents)
     held[chart.one] = ONE
-    sums = sums_given(served(fitting.net, chart, name), column_list(chart, name), held)
+    sums = sums_given(units, column_list(chart, name), held)
     values = [pair[0] for pair, total in zip(chart.columns(name), sums) if total == ONE]
     return values[0]
 
 
 def value_of_scratch(fitting, name, contents):
     """The value of a look's name whose column gets the sum 1 for some scratch contents."""
-    _, _, scratch = fitting.chart.look(name)
-    return value_given(fitting, name, dict(zip(scratch, contents)))
+    chart = fitting.chart
+    _, _, scratch = chart.look(name)
+    return value_given(served(fitting.net, chart, name), chart, name, dict(zip(scratch, contents)))
 
 
 def table_read(fitting, name, ranges):
@@ -47,7 +50,7 @@ def table_read(fitting, name, ranges):
     values = []
     for row in rows_of_values([ranges[known] for known in names]):
         contents = {chart.column(known, value): ONE for known, value in zip(names, row)}
-        values.append(value_given(fitting, name, contents))
+        values.append(value_given(units, chart, name, contents))
     return ("table", name, tuple(names), tuple(values))
 
 

@@ -162,6 +162,13 @@ class Deeds(Benches):
             bench.do(("put", "x", LIKE))
             bench.do((values[0], "x") + values[1:])
             self.holds(bench, {"x": getattr(changely, values[0])(start, *values[1:])})
+        # A stage and a head that are not the same.
+        program = read(2, 2, "let a be sign", "let c count where a = sign", "let f first a where a = a else 0", "tell f")
+        for word in ("lifted", "shifted"):
+            for head in (0, 1):
+                bench = Bench()
+                bench.do(("put", "x", program), (word, "x", 1, head, (3, 2)))
+                self.holds(bench, {"x": getattr(changely, word)(made_bundle(program), 1, head, (3, 2))})
         bench = Bench()
         bench.do(("put", "x", EXPRESSIONS_PROGRAM), ("parted", "x", 0, ["a"]))
         due = EXPRESSIONS_NET.replace("unit 1 1:-1 > 5:1\n", "").replace(

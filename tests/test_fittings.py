@@ -123,6 +123,9 @@ class Parts(unittest.TestCase):
         ]:
             self.assertFalse(fitting == other)
             self.assertTrue(fitting != other)
+        same = Fitting(fitting.program, wide, fitting.chart)
+        self.assertTrue(same == Fitting(fitting.program, wide, fitting.chart))
+        self.assertFalse(same == Fitting(fitting.program, wide, Chart.read(changed(LIKE_ME_CHART, ("4:13", "4:13 5:14")))))
         for other in any_values() + [fitting.program, fitting.net, fitting.chart, fitting.text()]:
             self.assertFalse(fitting == other)
             self.assertFalse(other == fitting)

@@ -246,6 +246,11 @@ class Shape(Judging):
             changed(LIKE_ME_CHART, ("3:7", "3:7 4:14")), changed(LIKE_ME_CHART, ("1:3", "1:3 2:1999")),
         ]:
             self.tell(due, LIKE, LIKE_ME, chart)
+        # A sign or a place more in the net, though the chart has all that the program needs.
+        more = changed(LIKE_ME, ("net 2 4 14", "net 3 4 14"), ("place 0", "sign 2 0:1\nplace 0"))
+        self.tell(due, LIKE, more, LIKE_ME_CHART)
+        more = changed(LIKE_ME, ("net 2 4 14", "net 2 5 14"), ("heads", "place 4\nheads"))
+        self.tell(due, LIKE, more, LIKE_ME_CHART)
         wide = LIKE_ME.replace("2 4 14", "2 4 15")
         self.tell(None, LIKE, wide, changed(LIKE_ME_CHART, ("3:7", "3:7 4:14")))
         self.tell((0, "given"), LIKE, wide, changed(LIKE_ME_CHART, ("chart 0", "chart 14")))
@@ -617,6 +622,13 @@ class LookValues(Judging):
         # Scratch contents that are turned about: k / (k + 1) in the place of 1 / (k + 1).
         net = changed(LIKE_ME, ("> 8,1:1", "> 8,0:1 8,1:-1"))
         self.tell(due, LIKE, net, LIKE_ME_CHART)
+        self.tell(None, LIKE, net.replace("1:-5 8:1 >", "0:1 1:-5 8:-1 >"), LIKE_ME_CHART)
+        # What is wrong for 4 alone, for 0 alone, and for 2 alone.
+        for units, word in [("unit 1 1:-1 8:-4 > 13:1", due), ("unit -1/2 8:1 > 9:1", due),
+                            ("unit 1 1:-1 8:-5 > 13:1", None), ("unit -1 8:1 > 9:1", None)]:
+            self.tell(word, LIKE, changed(LIKE_ME, ("end", f"{units}\nend")), LIKE_ME_CHART)
+        peak = "unit -1/4 1:-5 8:1 > 11:12\nunit -1/3 1:-5 8:1 > 11:-18\nunit -1/2 1:-5 8:1 > 11:6\n"
+        self.tell(due, LIKE, changed(LIKE_ME, ("end", f"{peak}end")), LIKE_ME_CHART)
 
     def test_the_example(self):
         net = changed(LIKE_ME, ("> 8,1:1", "> 8,1:1/2"))
